@@ -1,0 +1,1 @@
+"""Sayso: machines and logic, made out of one another."""

@@ -1,0 +1,89 @@
+import ast
+import copy
+import importlib
+import inspect
+import pathlib
+import unittest
+
+from samples import KINDS
+from sayso import formulas
+from sayso.structures import Structure
+from sayso.structures import format_structure
+
+PACKAGE = pathlib.Path(__file__).resolve().parent.parent / "sayso"
+
+# What has been built of the interface: functions with their arguments, and classes with those of their methods.
+FUNCTIONS = {
+    "structures": {"is_name": ["text"], "format_structure": ["structure"], "parse_structure": ["text"]},
+    "formulas": {
+        "check_formula": ["formula"], "free": ["formula"], "symbols": ["formula"], "positive": ["formula", "name"],
+        "parts": ["formula"], "depth": ["formula"], "rank": ["formula"], "width": ["formula"],
+        "is_first_order": ["formula"], "format_formula": ["formula"], "parse_formula": ["text"],
+    },
+}
+CLASSES = {
+    "structures": {"Structure": {
+        "__init__": ["self", "size", "relations"], "__eq__": ["self", "other"], "has": ["self", "name", "row"],
+        "with_relation": ["self", "name", "arity", "tuples"], "renamed": ["self", "permutation"], "symbols": ["self"],
+    }},
+    "errors": {name: {} for name in ["SaysoError", "BadStructure", "BadFormula", "BadText", "BadArgument", "BadMachine",
+                                     "NotFitting", "TooLarge", "BadLine"]},
+}
+
+
+def defined(module, kind):
+    tree = ast.parse((PACKAGE / f"{module}.py").read_text())
+    return {node.name: node for node in tree.body if isinstance(node, kind)}
+
+
+class TestInterface(unittest.TestCase):
+    def test_functions(self):
+        for module, told in FUNCTIONS.items():
+            found = defined(module, ast.FunctionDef)
+            for name, arguments in told.items():
+                with self.subTest(module=module, name=name):
+                    self.assertIn(name, found)
+                    function = getattr(importlib.import_module(f"sayso.{module}"), name)
+                    self.assertEqual(list(inspect.signature(function).parameters), arguments)
+
+    def test_classes(self):
+        for module, told in CLASSES.items():
+            found = defined(module, ast.ClassDef)
+            for name, methods in told.items():
+                self.assertIn(name, found)
+                bodies = {node.name: node for node in found[name].body if isinstance(node, ast.FunctionDef)}
+                for method, arguments in methods.items():
+                    with self.subTest(module=module, name=name, method=method):
+                        self.assertEqual([argument.arg for argument in bodies[method].args.args], arguments)
+
+
+class TestGeneral(unittest.TestCase):
+    def test_arguments_stay(self):
+        structure = Structure(3, [("e", 2, [(0, 1)]), ("p", 1, [])])
+        before = copy.deepcopy((structure.size, structure.relations))
+        structure.has("e", (0, 1))
+        structure.with_relation("e", 1, [])
+        structure.renamed([1, 2, 0])
+        structure.symbols().append(("q", 0))
+        format_structure(structure)
+        self.assertEqual((structure.size, structure.relations), before)
+
+    def test_lists_are_new(self):
+        for formula, _ in KINDS:
+            for function in [formulas.free, formulas.symbols]:
+                self.assertIsInstance(function(formula), list)
+                self.assertIsNot(function(formula), function(formula))
+        structure = Structure(2, [("e", 2, [])])
+        self.assertIsNot(structure.symbols(), structure.symbols())
+        self.assertIsNot(structure.with_relation("e", 2, []).relations, structure.relations)
+
+    def test_numbers_and_answers_are_of_their_kinds(self):
+        for formula, _ in KINDS:
+            for function in [formulas.parts, formulas.depth, formulas.rank, formulas.width]:
+                self.assertIs(type(function(formula)), int)
+            self.assertIs(type(formulas.is_first_order(formula)), bool)
+            self.assertIs(type(formulas.positive(formula, "r")), bool)
+
+
+if __name__ == "__main__":
+    unittest.main()
