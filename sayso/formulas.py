@@ -2,6 +2,7 @@
 
 from sayso.errors import BadFormula
 from sayso.errors import BadText
+from sayso.errors import TooLarge
 from sayso.shapes import arguments
 from sayso.shapes import bound_arity
 from sayso.shapes import bound_name
@@ -28,13 +29,13 @@ def _check_shapes(value, levels_left, parts_left):
     return parts_left
 
 
-def _arities(formula):
+def arities_in(formula):
     """Return the dictionary from the symbols of a formula to their arities, and check that these agree."""
     if formula[0] == "rel":
         return {formula[1]: len(formula[2])}
     found = {}
     for part in inner(formula):
-        within = _arities(part)
+        within = arities_in(part)
         for name in within:
             if found.setdefault(name, within[name]) != within[name]:
                 raise BadFormula("a name has two numbers of arguments")
@@ -45,7 +46,7 @@ def _arities(formula):
     return found
 
 
-def _is_positive(formula, name, sign):
+def is_positive_in(formula, name, sign):
     """Tell whether a formula is positive in a name.
 
     The sign is 1 below an even number of "not", -1 below an odd one, and 0 in a pfp.
@@ -59,14 +60,14 @@ def _is_positive(formula, name, sign):
     if formula[0] == "pfp":
         sign = 0
     for part in inner(formula):
-        if not _is_positive(part, name, sign):
+        if not is_positive_in(part, name, sign):
             return False
     return True
 
 
 def _check_fixed_points(formula):
     """Check that the formula within each lfp is positive in its name."""
-    if formula[0] == "lfp" and not _is_positive(formula[3], formula[1], 1):
+    if formula[0] == "lfp" and not is_positive_in(formula[3], formula[1], 1):
         raise BadFormula("the formula within an lfp is not positive in its name")
     for part in inner(formula):
         _check_fixed_points(part)
@@ -75,8 +76,17 @@ def _check_fixed_points(formula):
 def check_formula(formula):
     """Return None, or raise BadFormula for a value of any kind that is not a formula."""
     _check_shapes(formula, MOST_DEEP, MOST_PARTS)
-    _arities(formula)
+    arities_in(formula)
     _check_fixed_points(formula)
+
+
+def within_bounds(formula):
+    """Return a formula that the program made, or raise TooLarge if a bound makes it none."""
+    try:
+        check_formula(formula)
+    except BadFormula:
+        raise TooLarge("the formula that would be made is beyond a bound") from None
+    return formula
 
 
 def _free(formula):
@@ -98,13 +108,13 @@ def free(formula):
 def symbols(formula):
     """Return the list of pairs (name, arity) of the symbols of a formula in ascending order."""
     check_formula(formula)
-    return sorted(_arities(formula).items())
+    return sorted(arities_in(formula).items())
 
 
 def positive(formula, name):
     """Tell whether a formula is positive in a name."""
     check_formula(formula)
-    return _is_positive(formula, name, 1)
+    return is_positive_in(formula, name, 1)
 
 
 def _parts(formula):
@@ -137,19 +147,32 @@ def rank(formula):
     return _rank(formula)
 
 
-def _variables(formula):
+def variables_in(formula):
     """Return the dictionary whose keys are the variables that occur in a formula."""
     found = {variable: True for variable in own(formula) + arguments(formula)}
     for part in inner(formula):
-        for variable in _variables(part):
+        for variable in variables_in(part):
             found[variable] = True
+    return found
+
+
+def names_in(formula):
+    """Return the dictionary whose keys are the names of relations in a formula, bound ones among them."""
+    found = {}
+    if formula[0] == "rel":
+        found[formula[1]] = True
+    if bound_name(formula) is not None:
+        found[bound_name(formula)] = True
+    for part in inner(formula):
+        for name in names_in(part):
+            found[name] = True
     return found
 
 
 def width(formula):
     """Return the number of different variables that occur in a formula."""
     check_formula(formula)
-    return len(_variables(formula))
+    return len(variables_in(formula))
 
 
 def _is_first_order(formula):

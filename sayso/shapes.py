@@ -25,7 +25,7 @@ def _are_variables(value, counts):
     return all([is_name(variable) for variable in value])
 
 
-def _are_different(value, counts):
+def are_different(value, counts):
     """Tell whether a value is a tuple of different variables, as many as one of the counts."""
     return _are_variables(value, counts) and len(set(value)) == len(value)
 
@@ -47,17 +47,17 @@ def _is_joined(value):
 
 
 def _is_quantified(value):
-    return _are_different(value[1], OWN_COUNTS)
+    return are_different(value[1], OWN_COUNTS)
 
 
 def _is_fixed_point(value):
-    if not is_name(value[1]) or not _are_different(value[2], OWN_COUNTS):
+    if not is_name(value[1]) or not are_different(value[2], OWN_COUNTS):
         return False
     return _are_variables(value[4], (len(value[2]),))
 
 
 def _is_closure(value):
-    return _are_different(value[1], TC_COUNTS) and _are_variables(value[3], (len(value[1]),))
+    return are_different(value[1], TC_COUNTS) and _are_variables(value[3], (len(value[1]),))
 
 
 def _is_guess(value):
@@ -91,11 +91,32 @@ def inner(formula):
     return ()
 
 
+def _with_item(formula, at, item):
+    """Return a formula with another item at an index of its tuple."""
+    return formula[:at] + (item,) + formula[at + 1:]
+
+
+def with_inner(formula, changed):
+    """Return a formula in which a list of formulas stands for those directly in it."""
+    if formula[0] in ("and", "or"):
+        return (formula[0], tuple(changed))
+    if formula[0] in BODY_AT:
+        return _with_item(formula, BODY_AT[formula[0]], changed[0])
+    return formula
+
+
 def own(formula):
     """Return the variables that a formula binds within it."""
     if formula[0] in OWN_AT:
         return formula[OWN_AT[formula[0]]]
     return ()
+
+
+def with_own(formula, variables):
+    """Return a formula that binds other variables, without a change within it."""
+    if formula[0] in OWN_AT:
+        return _with_item(formula, OWN_AT[formula[0]], variables)
+    return formula
 
 
 def arguments(formula):
@@ -105,6 +126,15 @@ def arguments(formula):
     if formula[0] in ARGUMENTS_AT:
         return formula[ARGUMENTS_AT[formula[0]]]
     return ()
+
+
+def with_arguments(formula, variables):
+    """Return a formula in which other variables stand as arguments, or beside its sign."""
+    if formula[0] in ("eq", "less"):
+        return (formula[0],) + variables
+    if formula[0] in ARGUMENTS_AT:
+        return _with_item(formula, ARGUMENTS_AT[formula[0]], variables)
+    return formula
 
 
 def bound_name(formula):

@@ -6,7 +6,11 @@ import pathlib
 import unittest
 
 from samples import KINDS
+from samples import TRUE
+from sayso import fixed
 from sayso import formulas
+from sayso import forms
+from sayso import meaning
 from sayso.structures import Structure
 from sayso.structures import format_structure
 
@@ -19,6 +23,17 @@ FUNCTIONS = {
         "check_formula": ["formula"], "free": ["formula"], "symbols": ["formula"], "positive": ["formula", "name"],
         "parts": ["formula"], "depth": ["formula"], "rank": ["formula"], "width": ["formula"],
         "is_first_order": ["formula"], "format_formula": ["formula"], "parse_formula": ["text"],
+    },
+    "meaning": {
+        "cost": ["formula", "n"], "holds": ["formula", "structure", "values"], "query": ["formula", "structure", "variables"],
+    },
+    "forms": {
+        "inward": ["formula"], "apart": ["formula"], "prenex": ["formula"],
+        "replaced": ["formula", "name", "variables", "body"],
+    },
+    "fixed": {
+        "check_system": ["system"], "solve": ["system", "structure"], "stages": ["system", "structure"],
+        "one_formula": ["system", "index"],
     },
 }
 CLASSES = {
@@ -76,6 +91,39 @@ class TestGeneral(unittest.TestCase):
         structure = Structure(2, [("e", 2, [])])
         self.assertIsNot(structure.symbols(), structure.symbols())
         self.assertIsNot(structure.with_relation("e", 2, []).relations, structure.relations)
+
+        self.assertIsNot(meaning.query(TRUE, structure, ["x"]), meaning.query(TRUE, structure, ["x"]))
+
+    def test_arguments_of_formulas_and_systems_stay(self):
+        structure = Structure(2, [("e", 2, [(0, 1)])])
+        body = ("some", ("x",), ("not", ("and", (("rel", "e", ("x", "y")), ("rel", "r", ("y",)), ("not", ("rel", "r", ("y",)))))))
+        system = [("s", ("y",), ("some", ("x",), ("and", (("rel", "e", ("x", "y")), ("rel", "t", ("x",)))))), ("t", ("x",), TRUE)]
+        values, variables = {"y": 1, "x": None}, ["y", "x"]
+        structure = structure.with_relation("r", 1, [(0,)])
+        told = (body, system, values, variables, structure.size, structure.relations)
+        before = copy.deepcopy(told)
+        meaning.holds(body, structure, values)
+        meaning.query(body, structure, variables).append(None)
+        forms.inward(body)
+        forms.apart(("and", (body, body)))
+        forms.prenex(body)
+        forms.replaced(body, "r", ("x",), body[:1] + (("z",), ("rel", "e", ("x", "z"))))
+        fixed.check_system(system)
+        fixed.solve(system, structure).append(None)
+        fixed.stages(system, structure)[-1].append(None)
+        fixed.one_formula(system, 1)
+        self.assertEqual(told, before)
+
+    def test_answers_of_meaning_are_of_their_kinds(self):
+        structure = Structure(2, [("e", 2, [(0, 1)]), ("q", 0, [()])])
+        values = {"x": 0, "y": 1, "y1": 1, "a": 0, "b": 1, "and3": 0}
+        for formula, _ in KINDS:
+            self.assertIs(type(meaning.cost(formula, 3)), int)
+            if formulas.symbols(formula) in ([], [("e", 2)]):
+                self.assertIs(type(meaning.holds(formula, structure, values)), bool)
+                found = meaning.query(formula, structure, sorted(formulas.free(formula)))
+                self.assertIs(type(found), list)
+                self.assertTrue(all(type(row) is tuple for row in found))
 
     def test_numbers_and_answers_are_of_their_kinds(self):
         for formula, _ in KINDS:
