@@ -22,7 +22,6 @@ from sayso.renaming import renamed
 from sayso.renaming import with_rels
 from sayso.shapes import OWN_COUNTS
 from sayso.shapes import are_different
-from sayso.structures import MOST_ROWS
 from sayso.structures import is_name
 
 MOST_DEFINITIONS = 24
@@ -84,7 +83,8 @@ def _check_solvable(system, structure):
     for count, (_, _, body) in zip(counts, system):
         check_work(body, size)
         work = work + count * known_cost(body, size)
-    if max(counts) > MOST_ROWS or sum(counts) * work > MOST_COST:
+    # A definition with more than 4096 tuples is beyond this, too: the product is at least their square.
+    if sum(counts) * work > MOST_COST:
         raise TooLarge("the stages of the system are too much to be evaluated")
 
 

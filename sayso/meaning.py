@@ -57,28 +57,20 @@ def cost(formula, n):
     return known_cost(formula, n)
 
 
-def _check_rows(formula, n):
-    """Raise TooLarge if a formula, or one within it, goes through too many tuples or relations."""
-    most = MOST_ROWS
-    count = 1
-    if formula[0] == "lfp":
-        count = power(n, len(own(formula)))
-    if formula[0] == "tc":
-        count = power(n, len(own(formula)) // 2)
-    if formula[0] in ("pfp", "guess"):
-        most = MOST_TRIED_ROWS
-        count = power(n, bound_arity(formula))
-    if count > most:
-        raise TooLarge("a formula goes through too many tuples")
+def _check_tried(formula, n):
+    """Raise TooLarge if a pfp or a guess in a formula has too many relations to try."""
+    if formula[0] in ("pfp", "guess") and power(n, bound_arity(formula)) > MOST_TRIED_ROWS:
+        raise TooLarge("a pfp or a guess has too many tuples")
     for part in inner(formula):
-        _check_rows(part, n)
+        _check_tried(part, n)
 
 
 def check_work(formula, n):
     """Raise TooLarge if a formula is too much to be evaluated for n elements."""
     if known_cost(formula, n) > MOST_COST:
         raise TooLarge("the cost of the formula is too large")
-    _check_rows(formula, n)
+    # An lfp with more than 4096 tuples, or a tc with more than 4096 halves of tuples, costs more than their square.
+    _check_tried(formula, n)
 
 
 def check_symbols(needed, structure):

@@ -12,7 +12,7 @@ from sayso.shapes import with_own
 class Names:
     """A source of names, none of which comes twice, or is one of those that are barred from the beginning.
 
-    A name that the source makes by itself is also none of those that are known: these may still be asked for.
+    Only names that are barred or known may be asked for: those that the source makes by itself are none of these.
     """
 
     def __init__(self, barred, known):
@@ -26,7 +26,6 @@ class Names:
             self.made += 1
             name = f"v{self.made}"
             if name not in self.used and name not in self.known:
-                self.used[name] = True
                 return name
 
     def instead_of(self, name):

@@ -62,7 +62,8 @@ class TestCost(unittest.TestCase):
                 count = n ** k
                 self.assertEqual(cost(("pfp", "r", NAMES[:k], two, NAMES[:k]), n), min(1 + 4 * count * 2 ** count, LARGEST))
             for k in range(4):
-                self.assertEqual(cost(("guess", "r", k, two), n), min(1 + 4 * 2 ** n ** k, LARGEST))
+                for body, told in [(two, 4), (X, 1), (("not", X), 2)]:
+                    self.assertEqual(cost(("guess", "r", k, body), n), min(1 + told * 2 ** n ** k, LARGEST))
 
     def test_by_hand(self):
         self.assertEqual(cost(("pfp", "r", ("x",), ("not", X), ("x",)), 3), 49)

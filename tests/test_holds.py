@@ -244,6 +244,12 @@ class TestBoundAgain(unittest.TestCase):
             self.rows((word, "r", ("x",), ("or", (rel("r", "x"), ("eq", "x", "s"))), ("t",)), "s t", [(k, k) for k in range(4)])
         guessed = ("guess", "r", 1, ("and", (rel("r", "s"), ("all", ("x",), ("or", (neg(rel("r", "x")), ("eq", "x", "s")))), rel("r", "t"))))
         self.rows(guessed, "s t", [(k, k) for k in range(4)])
+        # The greater s is, the earlier comes the only relation that will do, however they are counted.
+        for one, other in [("s", "x"), ("x", "s")]:
+            exactly = ("all", ("x",), ("or", (("and", (rel("r", "x"), neg(("less", one, other)))), ("and", (neg(rel("r", "x")), ("less", one, other))))))
+            self.rows(("guess", "r", 1, exactly), "s", [(k,) for k in range(4)])
+            self.rows(("guess", "r", 1, ("and", (exactly, rel("r", "t")))), "s t",
+                      [(j, k) for j in range(4) for k in range(4) if (k <= j if one == "s" else k >= j)])
 
     def test_names_that_are_variables_too(self):
         self.rows(("some", ("e",), rel("e", "e", "p")), "p", [(1,), (2,), (3,)])

@@ -168,6 +168,22 @@ class TestOneFormula(unittest.TestCase):
                 self.assertEqual(all_names(found) & told, {one, "e", "p"})
                 self.assertEqual(query(found, path(4), [one]), [(0,), (2,)])
 
+    def test_new_names_wherever_the_old_ones_stand(self):
+        added = sorted(all_names(one_formula(PARITY, 0)) - {"x", "y", "e"})
+        self.assertGreater(len(added), 3)
+        for name in added:
+            for system in [
+                [("r", ("x",), TRUE), (name, ("x",), TRUE)],
+                [("r", (name, "x"), TRUE), ("s", ("x",), TRUE)],
+                [("r", ("x",), rel(name, "x")), ("s", ("x",), TRUE)],
+                [("r", ("x",), TRUE), ("s", ("x",), ("guess", name, 0, TRUE))],
+                [("r", ("x",), TRUE), ("s", ("x",), ("some", (name,), TRUE))],
+                [("r", ("x",), TRUE), ("s", ("x",), ("tc", (name, "y"), rel("e", name, "y"), ("x", "x")))],
+            ]:
+                joined, above = next((part, above) for part, above in ways(self.made(system, 1)) if part[0] == "lfp")
+                self.assertNotIn(name, (joined[1],) + own(joined))
+                self.assertNotIn(name, [variable for outer in above for variable in own(outer)])
+
     def test_new_names_differ_from_all_others(self):
         source = random.Random(95)
         for _ in range(100):

@@ -120,6 +120,8 @@ class TestPrenex(unittest.TestCase):
         self.assertEqual(bound_count(self.check(nine)), 9)
         found = self.check(("and", (nine, ("not", nine))))
         self.assertEqual(bound_count(found), 18)
+        self.assertEqual(bound_count(self.check(("all", ("y",), nine))), 10)
+        self.assertEqual(bound_count(self.check(("and", (("all", ("y",), nine), nine)))), 19)
 
     def test_at_the_bounds(self):
         single = tuple(turns(1, word) for word in ["some", "all"] * 10)
