@@ -213,7 +213,7 @@ def _closure_test(formula, scope):
     return holds_now
 
 
-def _goes_on(relation, rows):
+def counts_on(relation, rows):
     """Make a relation the next one of those that consist of rows, and tell whether there is a next one."""
     # This is counting in binary digits, one for each row: a digit becomes 1, and those before it become 0.
     for row in rows:
@@ -234,7 +234,7 @@ def _guess_test(formula, scope):
     def holds_now():
         tables[table] = {}
         while not test():
-            if not _goes_on(tables[table], rows):
+            if not counts_on(tables[table], rows):
                 return False
         return True
 

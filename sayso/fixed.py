@@ -11,6 +11,7 @@ from sayso.formulas import is_positive_in
 from sayso.formulas import names_in
 from sayso.formulas import variables_in
 from sayso.formulas import within_bounds
+from sayso.integers import digits_for
 from sayso.integers import is_between
 from sayso.integers import power
 from sayso.meaning import MOST_COST
@@ -130,14 +131,6 @@ def stages(system, structure):
     return found
 
 
-def _mark_count(count):
-    """Return the least number of marks, each of one of two elements, that tell so many definitions apart."""
-    marks = 0
-    while power(2, marks) < count:
-        marks += 1
-    return marks
-
-
 class Joined:
     """The relations of a system put into one, which tells them apart by marks that are one of two elements.
 
@@ -148,7 +141,7 @@ class Joined:
         self.element = element
         self.other = source.fresh()
         self.name = source.fresh()
-        self.marks = tuple([source.fresh() for _ in range(_mark_count(len(system)))])
+        self.marks = tuple([source.fresh() for _ in range(digits_for(len(system)))])
         self.places = tuple([source.fresh() for _ in range(max([len(variables) for _, variables, _ in system]))])
 
     def marking(self, index):

@@ -18,3 +18,11 @@ def power(base, exponent):
     for _ in range(exponent):
         result = result * base
     return result
+
+
+def digits_for(count):
+    """Return the least number of binary digits that tell so many things apart."""
+    digits = 0
+    while power(2, digits) < count:
+        digits += 1
+    return digits

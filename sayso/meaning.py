@@ -25,7 +25,7 @@ MOST_TRIED_ROWS = 12
 ENOUGH_DOUBLINGS = 30
 
 
-def _doublings(count):
+def doublings(count):
     """Return 2 to the power of a count, or a number beyond the largest cost."""
     return power(2, min(count, ENOUGH_DOUBLINGS))
 
@@ -36,9 +36,9 @@ def _repetitions(formula, n):
     if formula[0] == "lfp":
         return count * count
     if formula[0] == "pfp":
-        return _doublings(count) * count
+        return doublings(count) * count
     if formula[0] == "guess":
-        return _doublings(power(n, formula[2]))
+        return doublings(power(n, formula[2]))
     return count
 
 

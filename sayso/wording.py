@@ -7,7 +7,6 @@ from sayso.shapes import inner
 from sayso.shapes import own
 from sayso.structures import FIGURES
 from sayso.structures import LETTERS
-from sayso.structures import is_name
 
 SIGNS = {"eq": "=", "less": "<"}
 WORDS_OF_EMPTY = {"and": "true", "or": "false"}

@@ -5,18 +5,26 @@ import inspect
 import pathlib
 import unittest
 
+from machining import COUNTER
+from machining import WALKS
 from samples import KINDS
 from samples import TRUE
+from sayso import clocks
 from sayso import fixed
 from sayso import formulas
 from sayso import forms
+from sayso import games
+from sayso import guesses
+from sayso import heads
+from sayso import machines
 from sayso import meaning
+from sayso import room
 from sayso.structures import Structure
 from sayso.structures import format_structure
 
 PACKAGE = pathlib.Path(__file__).resolve().parent.parent / "sayso"
 
-# What has been built of the interface: functions with their arguments, and classes with those of their methods.
+# The interface: functions with their arguments, and classes with those of their methods.
 FUNCTIONS = {
     "structures": {"is_name": ["text"], "format_structure": ["structure"], "parse_structure": ["text"]},
     "formulas": {
@@ -35,6 +43,24 @@ FUNCTIONS = {
         "check_system": ["system"], "solve": ["system", "structure"], "stages": ["system", "structure"],
         "one_formula": ["system", "index"],
     },
+    "games": {
+        "is_sound": ["first", "second", "position"], "is_keeping": ["first", "second", "k", "table"],
+        "length": ["first", "second", "position"], "keeping_table": ["first", "second", "k"], "parting": ["first", "second", "k"],
+    },
+    "machines": {
+        "check_machine": ["machine"], "is_plain": ["machine"], "machine_symbols": ["machine"], "first_configuration": ["machine"],
+        "next_configurations": ["machine", "structure", "configuration"], "run": ["machine", "structure", "most"],
+    },
+    "heads": {
+        "accepts": ["machine", "structure"], "path": ["machine", "structure"], "refusal": ["machine", "structure"],
+        "is_refusal": ["machine", "structure", "levels"], "sentence_of_heads": ["machine"], "heads_of_sentence": ["sentence"],
+    },
+    "clocks": {"clock_of_sentence": ["sentence"], "system_of_clock": ["machine", "c"]},
+    "guesses": {
+        "accepts_some": ["machine", "structure", "most"], "machine_of_guess": ["sentence"],
+        "system_of_guess": ["machine", "c", "name"],
+    },
+    "room": {"sentence_of_room": ["machine"], "room_of_sentence": ["sentence"]},
 }
 CLASSES = {
     "structures": {"Structure": {
@@ -43,6 +69,7 @@ CLASSES = {
     }},
     "errors": {name: {} for name in ["SaysoError", "BadStructure", "BadFormula", "BadText", "BadArgument", "BadMachine",
                                      "NotFitting", "TooLarge", "BadLine"]},
+    "desk": {"Desk": {"__init__": ["self"], "do": ["self", "line"]}},
 }
 
 
@@ -113,6 +140,52 @@ class TestGeneral(unittest.TestCase):
         fixed.stages(system, structure)[-1].append(None)
         fixed.one_formula(system, 1)
         self.assertEqual(told, before)
+
+    def test_arguments_of_games_stay(self):
+        first = Structure(2, [("e", 2, [(0, 1)]), ("p", 1, [])])
+        second = Structure(3, [("p", 1, [(2,)]), ("e", 2, [])])
+        table = games.keeping_table(first, first, 1)[::-1]
+        told = (first.relations, second.relations, table)
+        before = copy.deepcopy(told)
+        games.is_sound(first, second, ((0, 1), None))
+        games.is_keeping(first, first, 1, table)
+        games.length(first, second, (None, (0, 1)))
+        games.keeping_table(first, first, 2).clear()
+        games.parting(first, second, 2)
+        self.assertEqual(told, before)
+
+    def test_arguments_of_machines_stay(self):
+        structure = Structure(2, [("e", 2, [(0, 1)]), ("p", 1, [(0,), (1,)])])
+        levels = heads.refusal(WALKS, structure.with_relation("p", 1, []))
+        here = (0, (0,), (((1,),),))
+        told = (structure.relations, levels, WALKS, COUNTER, here)
+        before = copy.deepcopy(told)
+        machines.next_configurations(COUNTER, structure, here).append(None)
+        machines.run(COUNTER, structure, 5)
+        heads.accepts(WALKS, structure)
+        heads.path(WALKS, structure).append(None)
+        heads.is_refusal(WALKS, structure, levels)
+        heads.sentence_of_heads(WALKS)
+        clocks.system_of_clock(COUNTER, 2).append(None)
+        guesses.accepts_some(COUNTER, structure, 5).append(None)
+        guesses.system_of_guess(COUNTER, 1, "g").append(None)
+        room.sentence_of_room(COUNTER)
+        self.assertEqual(told, before)
+        self.assertEqual(machines.run(COUNTER, structure, 5), machines.run(COUNTER, structure, 5))
+
+    def test_answers_of_machines_are_of_their_kinds(self):
+        structure = Structure(2, [("p", 1, [(0,), (1,)])])
+        self.assertIs(type(machines.machine_symbols(WALKS)), list)
+        self.assertIs(type(machines.next_configurations(WALKS, structure, (0, (0,), ()))), list)
+        self.assertIs(type(machines.next_configurations(WALKS, structure, (0, (0,), ()))[0]), tuple)
+        self.assertIs(type(machines.is_plain(WALKS)), bool)
+        self.assertIs(type(heads.accepts(WALKS, structure)), bool)
+        self.assertIs(type(heads.path(WALKS, structure)), list)
+        self.assertIs(type(guesses.accepts_some(COUNTER, structure, 9)), list)
+        self.assertIs(type(clocks.system_of_clock(WALKS, 1)), list)
+        for value in [heads.sentence_of_heads(WALKS), room.sentence_of_room(WALKS), heads.heads_of_sentence(TRUE),
+                      clocks.clock_of_sentence(TRUE), machines.run(WALKS, structure, 1), machines.first_configuration(WALKS)]:
+            self.assertIs(type(value), tuple)
 
     def test_answers_of_meaning_are_of_their_kinds(self):
         structure = Structure(2, [("e", 2, [(0, 1)]), ("q", 0, [()])])
