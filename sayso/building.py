@@ -49,7 +49,7 @@ class Builder:
         lasts = [("last", head, True) for head in heads]
         self.add_rule(state, given + lasts, first + [("zero", head) for head in heads], goals[1])
 
-    def machine(self):
+    def built(self):
         """Return the machine."""
         return (self.heads, tuple(self.tapes), self.states, tuple(self.rules))
 

@@ -39,7 +39,7 @@ def decided_machine(formula, builder, tape_of):
     """Return the machine that accepts if a formula holds, and stops otherwise, with the relations of names on tapes."""
     stopping = builder.fresh_state()
     add_decision(formula, Decision(builder, ({}, tape_of), 0, ACCEPTING, stopping))
-    return builder.machine()
+    return builder.built()
 
 
 def clock_of_sentence(sentence):

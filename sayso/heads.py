@@ -146,4 +146,4 @@ def heads_of_sentence(sentence):
         raise TooLarge("the sentence has too many variables or parts")
     builder = Builder()
     add_way(sentence, Way(builder, {}, False, 0, ACCEPTING))
-    return builder.machine()
+    return builder.built()

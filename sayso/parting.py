@@ -51,7 +51,7 @@ class Writer:
         """Return the number of the smallest formula that tells of a move which wins in so many rounds."""
         found = []
         for at in range(len(position)):
-            for is_first, pairs in self.game.moves:
+            for is_first, pairs in self.game.choices:
                 reached = [position[:at] + (pair,) + position[at + 1:] for pair in pairs]
                 if all([self.game.lengths.get(after, rounds) < rounds for after in reached]):
                     found.append(self._move(at, is_first, [self._write(after) for after in reached]))

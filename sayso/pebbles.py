@@ -68,7 +68,7 @@ class Game:
         self.second = second
         chosen = [(True, [(one, other) for other in range(second.size)]) for one in range(first.size)]
         answered = [(False, [(one, other) for one in range(first.size)]) for other in range(second.size)]
-        self.moves = chosen + answered
+        self.choices = chosen + answered
         self.entries = [None] + [pair for _, pairs in chosen for pair in pairs]
         self.positions = [()]
         for _ in range(pebbles):
@@ -94,7 +94,7 @@ class Game:
 
     def _wins_by(self, rest, at):
         """Tell whether some move with the entry before or behind others leads to known positions alone."""
-        for _, pairs in self.moves:
+        for _, pairs in self.choices:
             if all([rest[:at] + (pair,) + rest[at:] in self.lengths for pair in pairs]):
                 return True
         return False

@@ -65,29 +65,33 @@ class Order:
 
     def are_least(self, variables):
         """Return the list of formulas that say that variables have the least element."""
-        if not variables or self.least is not None:
-            return [("eq", variable, self.least) for variable in variables]
-        return [("not", self.are_not_least(variables))]
+        return self._are_at(self.least, variables, True)
 
     def are_not_least(self, variables):
         """Return the formula that says that some of the variables, of which there is one, are not the least."""
-        if self.least is not None:
-            return ("not", all_of(self.are_least(variables)))
-        other = self.source.fresh()
-        return ("some", (other,), any_of([("less", other, variable) for variable in variables]))
+        return self._are_not_at(self.least, variables, True)
 
     def are_greatest(self, variables):
         """Return the list of formulas that say that variables have the greatest element."""
-        if not variables or self.greatest is not None:
-            return [("eq", variable, self.greatest) for variable in variables]
-        return [("not", self.are_not_greatest(variables))]
+        return self._are_at(self.greatest, variables, False)
 
     def are_not_greatest(self, variables):
         """Return the formula that says that some of the variables, of which there is one, are not the greatest."""
-        if self.greatest is not None:
-            return ("not", all_of(self.are_greatest(variables)))
+        return self._are_not_at(self.greatest, variables, False)
+
+    def _are_at(self, end, variables, is_low):
+        """Return the list of formulas that say that variables are at an end, of which there may be a variable."""
+        if not variables or end is not None:
+            return [("eq", variable, end) for variable in variables]
+        return [("not", self._are_not_at(end, variables, is_low))]
+
+    def _are_not_at(self, end, variables, is_low):
+        """Return the formula that says that some of the variables are not at an end."""
+        if end is not None:
+            return ("not", all_of(self._are_at(end, variables, is_low)))
         other = self.source.fresh()
-        return ("some", (other,), any_of([("less", variable, other) for variable in variables]))
+        beyond = [("less", other, variable) if is_low else ("less", variable, other) for variable in variables]
+        return ("some", (other,), any_of(beyond))
 
     def steps(self, low, high, count):
         """Return the list of formulas that say that one variable is so many elements above another."""

@@ -54,7 +54,7 @@ class Previous:
         actions = [action for _, rule in self.choices[state] for action in rule[2]]
         return tape in [action[1] for action in actions if action[0] == "write"]
 
-    def cells(self, tape, cell, flag):
+    def cell_ways(self, tape, cell, flag):
         """Return the list of formulas of which one holds if a cell of a tape is marked, or is not, after the step.
 
         If no rule applied, there is no such step, and what they tell then makes no difference.

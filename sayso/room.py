@@ -77,4 +77,4 @@ def _stages_machine(variables, fixed):
     told = ("mark", stage, heads_of(with_heads({}, variables, asked), passed))
     builder.add_rule(settled, [told + (True,)], [], ACCEPTING)
     builder.add_advance(settled, [told + (False,)], [], asked, (settled, stopping))
-    return builder.machine()
+    return builder.built()

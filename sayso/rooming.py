@@ -20,8 +20,8 @@ class Room:
     """The relation of a pfp whose stages are the configurations of a plain machine, one after the other.
 
     A tuple begins with signs, which write the number of a state or, behind the states, of a tape. Behind them stand
-    the elements of the heads or of a marked cell, and then the least element. In the accepting state anything stands
-    there: all tuples with this state belong to the stage, and to all later ones.
+    the elements of the heads or of a marked cell, and then the least element. When the accepting state has been
+    reached, all tuples belong to the stage, and to all later ones; no tuple with its number does before.
     """
 
     def __init__(self, machine):
@@ -59,15 +59,10 @@ class Room:
         rest = self.order.are_least(self.places[count:])
         return [all_of(self._has_number(number) + rest + [any_of(ways)])]
 
-    def _has_accepted(self):
-        """Return the formula that says that the state was the accepting one, where any places may stand."""
-        return ("rel", self.name, signs_of(ACCEPTING, len(self.signs), self.order) + tuple(self.places))
-
     def _not_begun(self):
-        """Return the list of formulas that say that there was no state."""
+        """Return the formula that says that there was no state."""
         before = self.order.fresh(self.machine[0])
-        states = any_of([self.at_state(state, before) for state in self.reached])
-        return [("not", self._has_accepted()), ("not", there_are(before, [states]))]
+        return ("not", there_are(before, [any_of([self.at_state(state, before) for state in self.reached])]))
 
     def body(self):
         """Return the formula of the pfp."""
@@ -77,19 +72,18 @@ class Room:
         for state in self.reached:
             ways = self.previous.arrivals(state, places)
             if state == 0:
-                ways.append(all_of(self.order.are_least(places) + self._not_begun()))
+                ways.append(all_of(self.order.are_least(places) + [self._not_begun()]))
             found.extend(self._rows_of(state, heads, ways))
         before = self.order.fresh(heads)
         ways = self.previous.accepting(before)
         if ways:
-            accepted = any_of([self._has_accepted(), there_are(before, [any_of(ways)])])
-            found.append(all_of(self._has_number(ACCEPTING) + [accepted]))
+            found.extend([self.at_state(ACCEPTING, places), there_are(before, [any_of(ways)])])
         for tape, arity in enumerate(tapes):
-            ways = self.previous.cells(tape, self.places[:arity], True)
+            ways = self.previous.cell_ways(tape, self.places[:arity], True)
             found.extend(self._rows_of(states + tape, arity, ways))
         return any_of(found)
 
-    def sentence(self):
+    def whole(self):
         """Return the sentence that the machine accepts, which may still be beyond a bound."""
         fixed = ("pfp", self.name, tuple(self.signs + self.places), self.body(), self._row(ACCEPTING, ()))
         return ("some", (self.order.least, self.order.greatest), all_of([self.order.ends_told(), fixed]))
@@ -100,4 +94,4 @@ def room_sentence(machine):
     room = Room(machine)
     if len(room.signs) + len(room.places) > max(OWN_COUNTS):
         raise TooLarge("the machine has too many heads, states and tapes")
-    return room.sentence()
+    return room.whole()

@@ -72,7 +72,7 @@ class Timed:
         """Return the name of the relation of the cells of a tape that are marked, or are not."""
         return self.mark_names[tape] if flag else self.blank_names[tape]
 
-    def previous(self, time):
+    def previous_at(self, time):
         """Return what can be told of a step that begins at the time of some variables."""
         return Previous(self.machine, self.order, View(self, time))
 
@@ -88,7 +88,7 @@ class Timed:
         places = self.order.fresh(self.machine[0])
         old = self.order.fresh(self.c)
         begun = self.order.are_least(time + places) if state == 0 else []
-        body = any_of(begun + self._after(old, time, self.previous(old).arrivals(state, places)))
+        body = any_of(begun + self._after(old, time, self.previous_at(old).arrivals(state, places)))
         return (self.state_names[state], tuple(time + places), body)
 
     def tape_definition(self, tape, flag):
@@ -97,7 +97,7 @@ class Timed:
         cell = self.order.fresh(self.machine[1][tape])
         old = self.order.fresh(self.c)
         begun = self._begun(tape, flag, time, cell)
-        body = any_of(begun + self._after(old, time, self.previous(old).cells(tape, cell, flag)))
+        body = any_of(begun + self._after(old, time, self.previous_at(old).cell_ways(tape, cell, flag)))
         return (self.tape_name(tape, flag), tuple(time + cell), body)
 
     def _begun(self, tape, flag, time, cell):
@@ -111,7 +111,7 @@ class Timed:
         """Return the definition that holds for all elements if a rule leads to the accepting state in time."""
         time = self.order.fresh(self.c)
         before = self.order.fresh(self.machine[0])
-        ways = self.previous(time).accepting(before)
+        ways = self.previous_at(time).accepting(before)
         body = any_of(ways)
         if ways:
             body = there_are(time + before, [self.order.are_not_greatest(time), body])
