@@ -11,7 +11,6 @@ from sayso.formulas import rank
 from sayso.formulas import symbols
 from sayso.formulas import width
 from sayso.games import length
-from sayso.guesses import MOST_GUESSED
 from sayso.guesses import accepts_some
 from sayso.guesses import machine_of_guess
 from sayso.heads import MOST_SEARCHED
@@ -32,7 +31,8 @@ def _yes_or_no(flag):
 
 def answer_numbers(sentence):
     """Return the rank, the width, the number of parts and the depth of a sentence."""
-    return f"{rank(sentence)} {width(sentence)} {parts(sentence)} {depth(sentence)}"
+    numbers = [rank(sentence), width(sentence), parts(sentence), depth(sentence)]
+    return " ".join([str(number) for number in numbers])
 
 
 def answer_holds(sentence, structure):
@@ -77,9 +77,8 @@ def _accepts_by_clock(machine, sentence, structure):
 
 
 def _accepts_by_guess(machine, sentence, structure):
-    _, _, arity, body = sentence
-    _within(power(structure.size, arity), MOST_GUESSED)
-    most = _within(40 * cost(body, structure.size), MOST_STEPS)
+    # That there are at most 9 cells to guess is looked at by accepts_some.
+    most = _within(40 * cost(sentence[3], structure.size), MOST_STEPS)
     return accepts_some(machine, structure, most) is not None
 
 

@@ -114,6 +114,11 @@ class TestCheck(unittest.TestCase):
             for flag in [0, 1, None, "True", (), [True]]:
                 self.bad(with_condition(condition[:-1] + (flag,)))
 
+    def test_what_is_no_condition_and_no_action(self):
+        for value in [(), ((),), ([],), (None,), ({},), (1, 2, 3), None, 0, True, "last", [], {}, (("last", 0, True),), ("last",)]:
+            self.bad(with_condition(value))
+            self.bad(with_action(value))
+
     def test_heads_of_conditions(self):
         for head in [2, -1, 12] + NO_NUMBERS:
             for condition in [("eq", head, 0, True), ("eq", 0, head, True), ("less", head, 0, True), ("less", 0, head, True),

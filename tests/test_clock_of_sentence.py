@@ -151,7 +151,8 @@ class TestErrors(unittest.TestCase):
 
     def test_no_sentences_of_the_kind(self):
         for text in ["x = x", "e(x y)", "lfp(r x: p(x))(x)", "some(x: lfp(r x: e(x y))(x))", "some(x: tc(x y: e(x y))(x x))",
-                     "some(x: pfp(r x: p(x))(x))", "guess(r 1: true)", "not(guess(r 0: r()))", "some(x: not(not(tc(x y: e(x y))(x x))))"]:
+                     "some(x: pfp(r x: p(x))(x))", "guess(r 1: true)", "not(guess(r 0: r()))", "some(x: not(not(tc(x y: e(x y))(x x))))",
+                     "guess(r 0: guess(s 0: r()))", "some(x: tc(x y: tc(y z: e(y z))(x y))(x x))", "some(x: pfp(r y: guess(s 0: s()))(x))"]:
             self.assertRaises(BadArgument, clock_of_sentence, parse_formula(text))
         self.assertRaises(BadArgument, clock_of_sentence, ("and", (with_bound(13, 20), ("eq", "x", "x"))))
 

@@ -231,7 +231,7 @@ class TestBounds(unittest.TestCase):
 
     def test_heads(self):
         # (10 * (p + b) + 2) * n ** b: 1992 * 10 and 2002 * 10, and so on.
-        for size, bound, most in [(10, 1, 198), (5, 2, 77), (2, 4, 120), (16, 2, 5), (3, 3, 70)]:
+        for size, bound, most in [(10, 1, 198), (5, 2, 77), (2, 4, 120), (16, 2, 5), (3, 3, 70), (4, 3, 28), (8, 2, 29)]:
             variables = " ".join("abcdef"[:bound])
             self.assertLessEqual((10 * (most + bound) + 2) * size ** bound, 20000)
             self.assertGreater((10 * (most + 1 + bound) + 2) * size ** bound, 20000)

@@ -86,6 +86,9 @@ class TestMoves(unittest.TestCase):
         rule = (0, (("last", 0, False), ("last", 1, False), ("last", 0, True)), (("up", 0),), 1)
         effect = Effect(2, rule[2])
         self.assertEqual(teller.applying(rule, effect, ["b0", "b1"]), [("not", ("eq", "b1", "greatest")), ("eq", "b0", "greatest")])
+        for actions in [(("down", 0),), (), (("zero", 0), ("up", 0)), (("copy", 0, 1), ("up", 0), ("down", 0))]:
+            told = teller.applying((0, (("last", 0, False),), actions, 1), Effect(2, actions), ["b0", "b1"])
+            self.assertEqual(told, [("not", ("eq", "b0", "greatest"))])
 
 
 class TestCells(unittest.TestCase):

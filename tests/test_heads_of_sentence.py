@@ -139,7 +139,8 @@ class TestErrors(unittest.TestCase):
                      "guess(r 1: true)", "and(q(), guess(r 0: r()))", "some(x: not(tc(x y: e(x y))(x x)))",
                      "not(all(x: tc(x y: e(x y))(x x)))", "some(x: tc(x y: not(tc(x y: e(x y))(x y)))(x x))",
                      "some(x: not(not(not(tc(x y: e(x y))(x x)))))", "not(and(q(), some(x: tc(x y: e(x y))(x x))))",
-                     "some(x: tc(x y: e(x z))(x x))"]:
+                     "some(x: tc(x y: e(x z))(x x))", "guess(r 0: guess(s 0: r()))", "some(x: lfp(r y: lfp(s z: r(z))(y))(x))",
+                     "some(x: pfp(r y: lfp(s z: p(z))(y))(x))"]:
             self.assertRaises(BadArgument, heads_of_sentence, parse_formula(text))
         # This comes before TooLarge.
         self.assertRaises(BadArgument, heads_of_sentence, ("and", (with_bound(13, 20), ("eq", "x", "x"))))

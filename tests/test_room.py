@@ -23,6 +23,8 @@ from samples import ways
 from sayso.errors import BadArgument
 from sayso.errors import BadFormula
 from sayso.errors import TooLarge
+from sayso.evaluation import row_test
+from sayso.evaluation import scope_of
 from sayso.formulas import check_formula
 from sayso.formulas import parse_formula
 from sayso.machines import is_plain
@@ -74,10 +76,11 @@ class TestSentence(unittest.TestCase):
         sentence = self.made(machine)
         word = told_run(machine, structure, 3000)[0]
         size = structure.size
-        if size ** sum(numbers(machine)) <= 12 and cost(sentence, size) <= 10 ** 6:
+        if size ** sum(numbers(machine)) <= 12 and cost(sentence, size) <= 3 * 10 ** 5:
             found = holds(sentence, structure, {})
-        elif size ** sum(numbers(machine)) * told_parts(sentence) < 1500:
-            found = told(sentence, size, {}, relations_of(structure))
+        elif size ** sum(numbers(machine)) <= 64:
+            # This is what `holds` does, but for the bounds of its work, of which few stages need all.
+            found = row_test(sentence, [], scope_of(structure))(())
         else:
             return None
         self.assertIs(found, word == "accepts", (machine, structure.relations))
@@ -110,13 +113,24 @@ class TestSentence(unittest.TestCase):
                 machine = (1, (1,), 5, rules)
                 self.assertEqual(self.agrees(machine, structure), "accepts" if flag is not wait else "stops")
 
+    def test_several_tapes(self):
+        # Each of three tapes is marked in its turn, and then one of them is looked for.
+        marks = [(("write", at, (), True), ("write", (at + 1) % 3, (), False)) for at in range(3)]
+        for last in range(3):
+            for asked in range(3):
+                rules = ((0, (), marks[last], 2), (2, (("mark", asked, (), True),), (), 1))
+                machine = (0, (0, 0, 0), 3, rules)
+                self.assertEqual(self.agrees(machine, Structure(2, [])), "accepts" if asked == last else "stops")
+                rules = ((0, (), marks[last], 2), (2, (), (("write", asked, (), False),), 3), (3, (("mark", last, (), True),), (), 1))
+                self.assertEqual(self.agrees((0, (0, 0, 0), 4, rules), Structure(2, [])), "stops" if asked == last else "accepts")
+
     def test_made_machines(self):
         source = random.Random(111)
         words = []
         for _ in range(500):
             size = source.choice([2, 2, 2, 3])
             heads = source.choice([0, 1, 1, 2])
-            tapes = tuple(source.choice([0, 1, 1, 2]) for _ in range(source.choice([0, 0, 1, 1, 2])))
+            tapes = tuple(source.choice([0, 1, 1, 2]) for _ in range(source.choice([0, 0, 1, 2, 2, 3])))
             machine = made_plain(source, heads, tapes, source.randrange(2, 5), source.choice([2, 2, 4]), source.choice([1, 2, 2, 3]))
             if sum(numbers(machine)) <= 6:
                 words.append((self.agrees(machine, machining.made_structure(source, size)), bool(tapes)))
