@@ -1,9 +1,7 @@
 """What the actions of a rule do, told without a structure, and formulas that say so."""
 
 from sayso.phrases import FALSE
-from sayso.phrases import TRUE
 from sayso.phrases import all_of
-from sayso.phrases import any_of
 from sayso.phrases import flagged
 from sayso.phrases import there_are
 
@@ -101,49 +99,33 @@ class Teller:
         extremes = list(effect.highs.items()) + list(effect.lows.items())
         return [self._exists(place, before) for place in extremes if place[1] != 0 and place not in told]
 
-    def moves(self, effect, before, after):
-        """Return the list of formulas that say that the heads go from elements to elements."""
-        found = self.bounds(effect, before, effect.ends)
-        for place, variable in zip(effect.ends, after):
+    def all_stand(self, places, before, variables):
+        """Return the list of formulas that say that variables have the elements of places."""
+        found = []
+        for place, variable in zip(places, variables):
             found.extend(self.stands(place, before, variable))
         return found
 
-    def sources(self, effect, after):
+    def moves(self, effect, before, after):
+        """Return the list of formulas that say that the heads go from elements to elements."""
+        return self.bounds(effect, before, effect.ends) + self.all_stand(effect.ends, before, after)
+
+    def not_written(self, places, before, cell):
+        """Return the formula that says that a cell is another one than that of places."""
+        return ("not", all_of(self.all_stand(places, before, cell)))
+
+    def sources(self, heads, places, variables):
         """Return the variables of heads before actions, and the list of those among them that are fresh.
 
-        Where a head keeps the element of a head, or takes it, its variable is the one that it has afterwards.
+        Where a place is that of a head before the actions, the variable that has its element is that of the head.
         """
         kept = {}
-        for place, variable in zip(effect.ends, after):
+        for place, variable in zip(places, variables):
             kept.setdefault(place, variable)
         before = []
         lost = []
-        for head in range(len(after)):
+        for head in range(heads):
             if (head, 0) not in kept:
                 lost.append(self.order.source.fresh())
             before.append(kept.get((head, 0)) or lost[-1])
         return before, lost
-
-    def cell(self, effect, before, asked, old):
-        """Return the formula that says that a cell is marked, or is not, after actions.
-
-        What is asked is a tape, the variables of a cell and a flag; old is the formula that says the same of the time
-        before.
-        """
-        tape, cell, flag = asked
-        found = old
-        for written, places, is_mark in effect.writes:
-            if written == tape:
-                found = self._written(places, before, cell, is_mark == flag, found)
-        return found
-
-    def _written(self, places, before, cell, is_wanted, old):
-        """Return the formula that says what old said, after a write of what is wanted, or of the contrary."""
-        here = []
-        for place, variable in zip(places, cell):
-            here.extend(self.stands(place, before, variable))
-        if not here:
-            return TRUE if is_wanted else FALSE
-        if is_wanted:
-            return any_of([all_of(here), old])
-        return all_of([("not", all_of(here)), old])

@@ -34,7 +34,7 @@ class Previous:
         for rule in self.rules:
             if rule[3] == state:
                 effect = Effect(self.heads, rule[2])
-                before, lost = self.teller.sources(effect, after)
+                before, lost = self.teller.sources(self.heads, effect.ends, after)
                 moves = self.teller.moves(effect, before, after)
                 found.append(there_are(lost, self._applied(rule, effect, before) + moves))
         return found
@@ -49,31 +49,48 @@ class Previous:
                 found.append(all_of(self._applied(rule, effect, before) + bounds))
         return found
 
-    def _writes(self, state, tape):
-        """Tell whether a rule of a state writes on a tape."""
-        actions = [action for _, rule in self.choices[state] for action in rule[2]]
-        return tape in [action[1] for action in actions if action[0] == "write"]
-
     def cell_ways(self, tape, cell, flag):
         """Return the list of formulas of which one holds if a cell of a tape is marked, or is not, after the step.
 
         If no rule applied, there is no such step, and what they tell then makes no difference.
         """
-        writing = [state for state in self.choices if self._writes(state, tape)]
-        others = [state for state in self.choices if state not in writing]
+        before = self.order.fresh(self.heads)
+        ways = []
+        for state, pairs in self.choices.items():
+            spared = [part for _, rule in pairs for part in self._spared(rule, before, (tape, cell, flag))]
+            ways.append(all_of([self.view.at_state(state, before)] + spared))
         found = []
-        if others:
-            before = self.order.fresh(self.heads)
-            present = any_of([self.view.at_state(state, before) for state in others])
-            found.append(all_of([self.view.marked(tape, cell, flag), there_are(before, [present])]))
-        for state in writing:
-            before = self.order.fresh(self.heads)
-            ways = any_of([self._cell_after(rule, before, (tape, cell, flag)) for _, rule in self.choices[state]])
-            found.append(there_are(before, [self.view.at_state(state, before), ways]))
+        if ways:
+            found.append(all_of([self.view.marked(tape, cell, flag), there_are(before, [any_of(ways)])]))
+        for rule in self.rules:
+            found.extend(self._written(rule, (tape, cell, flag)))
         return found
 
-    def _cell_after(self, rule, before, asked):
-        """Return the formula that says that the conditions of a rule held, and a cell is then marked, or is not."""
+    def _spared(self, rule, before, asked):
+        """Return the list of formulas that say that a rule of the state did not write the contrary of what is asked.
+
+        It is empty if the rule never does that.
+        """
+        effect = Effect(self.heads, rule[2])
+        elsewhere = [self.teller.not_written(places, before, asked[1])
+                     for tape, places, flag in effect.writes if (tape, flag) == (asked[0], not asked[2])]
+        if not elsewhere:
+            return []
+        contraries = [condition[:-1] + (not condition[-1],) for condition in rule[1]]
+        return [any_of(self.teller.conditions(contraries, before) + [all_of(elsewhere)])]
+
+    def _written(self, rule, asked):
+        """Return the list of formulas that say, each of an action of a rule, that it wrote what is asked, for good."""
         tape, cell, flag = asked
-        kept = self.teller.cell(Effect(self.heads, rule[2]), before, asked, self.view.marked(tape, cell, flag))
-        return all_of(self.teller.conditions(rule[1], before) + [kept])
+        effect = Effect(self.heads, rule[2])
+        found = []
+        for at, (written, places, is_mark) in enumerate(effect.writes):
+            if (written, is_mark) == (tape, flag):
+                before, lost = self.teller.sources(self.heads, places, cell)
+                told = [self.view.at_state(rule[0], before)] + self.teller.conditions(rule[1], before)
+                told.extend(self.teller.all_stand(places, before, cell))
+                for later, others, contrary in effect.writes[at + 1:]:
+                    if (later, contrary) == (tape, not flag):
+                        told.append(self.teller.not_written(others, before, cell))
+                found.append(there_are(lost, told))
+        return found

@@ -4,16 +4,21 @@ import random
 import unittest
 
 from machining import made_actions
+from machining import made_plain
+from machining import made_structure
 from machining import rows_of
 from machining import told_after
+from machining import told_next
 from sayso.effects import Effect
 from sayso.effects import Teller
+from sayso.formulas import symbols
 from sayso.meaning import holds
 from sayso.phrases import Order
 from sayso.phrases import all_of
 from sayso.phrases import any_of
 from sayso.phrases import flagged
 from sayso.phrases import there_are
+from sayso.previous import Previous
 from sayso.renaming import Names
 from sayso.structures import Structure
 
@@ -25,14 +30,17 @@ KNOWN = [(), (("up", 0),), (("down", 1),), (("up", 0), ("up", 0)), (("up", 0), (
 
 
 class View:
-    """A tape of the arity 1 and one of the arity 0, as relations of a structure."""
+    """States and tapes as relations of a structure."""
+
+    def at_state(self, state, places):
+        return ("rel", f"state{state}", tuple(places))
 
     def marked(self, tape, cell, flag):
         return flagged(("rel", f"tape{tape}", tuple(cell)), flag)
 
 
 def orders():
-    source = Names(["least", "greatest", "b0", "b1", "a0", "a1", "cell"], [])
+    source = Names(["least", "greatest", "b0", "b1", "a0", "a1", "c0", "c1"], [])
     return [Order(source, None, None), Order(source, "least", "greatest")]
 
 
@@ -73,7 +81,7 @@ class TestMoves(unittest.TestCase):
             teller = Teller(order, None)
             for actions in all_cases():
                 effect = Effect(2, actions)
-                before, lost = teller.sources(effect, ["a0", "a1"])
+                before, lost = teller.sources(2, effect.ends, ["a0", "a1"])
                 formula = there_are(lost, teller.moves(effect, before, ["a0", "a1"]) + [("eq", before[0], "b0"), ("eq", before[1], "b1")])
                 for start in rows_of(3, 2):
                     expected = told_after(actions, 3, start, ())
@@ -92,27 +100,55 @@ class TestMoves(unittest.TestCase):
 
 
 class TestCells(unittest.TestCase):
-    def test_cells(self):
+    def test_after_a_step(self):
+        # Where a plain machine was is told by the relations state0 and state2 of its heads, which have one tuple.
         source = random.Random(62)
-        cases = [made_actions(source, 2, (1, 0), 5) for _ in range(80)]
-        cases.append((("write", 0, (0,), True), ("write", 0, (0,), False), ("write", 0, (1,), True)))
-        cases.append((("write", 1, (), True), ("up", 0), ("write", 1, (), False), ("write", 0, (0,), True)))
+        tapes = (1, 0, 2)
+        checked = []
+        for _ in range(600):
+            machine = made_plain(source, 2, tapes, 4, 5, source.choice([0, 1, 2]))
+            marks = tuple(tuple(row for row in rows_of(2, arity) if source.random() < 0.5) for arity in tapes)
+            here = (source.choice([0, 2]), tuple(source.randrange(2) for _ in range(2)), marks)
+            structure = made_structure(source, 2)
+            following = told_next(machine, structure, here)
+            if not following:
+                continue
+            after = following[0][1]
+            structure = Structure(2, structure.relations[:2] + [
+                (f"state{state}", 2, [here[1]] if state == here[0] else []) for state in (0, 2, 3)])
+            for tape, arity in enumerate(tapes):
+                own = Structure(2, structure.relations + [(f"tape{tape}", arity, list(marks[tape]))])
+                checked.extend(self.agrees(machine, own, tape, arity, after))
+        for tape in range(3):
+            self.assertGreater(checked.count(tape), 100)
+
+    def agrees(self, machine, structure, tape, arity, after):
+        """Check what is said of a tape, if the machine looks at no other one, and at no other relation; tell how often."""
+        names = [name for name, _ in structure.symbols()]
+        checked = []
         for order in orders():
-            teller = Teller(order, View())
-            for actions in cases:
-                effect = Effect(2, actions)
-                for flag in [True, False]:
-                    formulas = [teller.cell(effect, ["b0", "b1"], (tape, cell, flag), View().marked(tape, cell, flag))
-                                for tape, cell in [(0, ["cell"]), (1, [])]]
-                    for marks in [((), ()), (((0,), (2,)), ((),))]:
-                        structure = Structure(3, [("tape0", 1, marks[0]), ("tape1", 0, marks[1])])
-                        for before in rows_of(3, 2):
-                            expected = told_after(actions, 3, before, marks)
-                            for cell in range(3) if expected is not None else []:
-                                values = {"b0": before[0], "b1": before[1], "cell": cell, "least": 0, "greatest": 2}
-                                after = expected[1]
-                                self.assertIs(holds(formulas[0], structure, values), ((cell,) in after[0]) is flag)
-                                self.assertIs(holds(formulas[1], structure, values), (() in after[1]) is flag)
+            previous = Previous(machine, order, View())
+            for flag in [True, False]:
+                cell = ["c0", "c1"][:arity]
+                formula = any_of(previous.cell_ways(tape, cell, flag))
+                if all(name in names for name, _ in symbols(formula)):
+                    for row in rows_of(2, arity):
+                        values = {**dict(zip(cell, row)), "least": 0, "greatest": 1}
+                        self.assertIs(holds(formula, structure, values), (row in after[2][tape]) is flag, (machine, tape, row))
+                        checked.append(tape)
+        return checked
+
+    def test_not_written(self):
+        for order in orders():
+            teller = Teller(order, None)
+            for actions in all_cases():
+                effect = Effect(2, actions + (("write", 0, (1, 0), True),))
+                formula = teller.not_written(effect.writes[0][1], ["b0", "b1"], ["c0", "c1"])
+                for before in rows_of(3, 2):
+                    told = told_after(actions, 3, before, ())
+                    for cell in rows_of(3, 2) if told is not None else []:
+                        values = {"b0": before[0], "b1": before[1], "c0": cell[0], "c1": cell[1], "least": 0, "greatest": 2}
+                        self.assertIs(holds(formula, Structure(3, []), values), told[0][::-1] != cell)
 
 
 class TestOrder(unittest.TestCase):
