@@ -50,7 +50,7 @@ def _answered(first, second, table, entry):
         if position[entry] is not None:
             chosen[position[entry][0]] = True
             answers[position[entry][1]] = True
-    return all([len(chosen) == first.size and len(answers) == second.size for chosen, answers in found.values()])
+    return all([len(one) == first.size and len(other) == second.size for one, other in found.values()])
 
 
 def is_keeping(first, second, k, table):

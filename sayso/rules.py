@@ -8,11 +8,9 @@ CONDITION_LENGTHS = {"rel": 4, "eq": 4, "less": 4, "last": 3, "mark": 4}
 ACTION_LENGTHS = {"up": 2, "down": 2, "zero": 2, "copy": 3, "write": 4}
 
 
-def _has_kind(value, lengths):
-    """Tell whether a value of any kind is a tuple that begins with a word, and is as long as the word says."""
-    if not isinstance(value, tuple) or not value or not isinstance(value[0], str):
-        return False
-    return lengths.get(value[0]) == len(value)
+def _has_word(value):
+    """Tell whether a value of any kind is a tuple that begins with a text."""
+    return isinstance(value, tuple) and len(value) > 0 and isinstance(value[0], str)
 
 
 def _are_heads(values, heads):
@@ -29,7 +27,7 @@ def _is_cell(tape, places, heads, tapes):
 
 def is_condition(value, heads, tapes):
     """Tell whether a value of any kind is a condition of a machine with so many heads and these tapes."""
-    if not _has_kind(value, CONDITION_LENGTHS) or not isinstance(value[-1], bool):
+    if not _has_word(value) or CONDITION_LENGTHS.get(value[0]) != len(value) or not isinstance(value[-1], bool):
         return False
     if value[0] == "rel":
         if not is_name(value[1]) or not isinstance(value[2], tuple) or len(value[2]) > LARGEST_ARITY:
@@ -42,7 +40,7 @@ def is_condition(value, heads, tapes):
 
 def is_action(value, heads, tapes):
     """Tell whether a value of any kind is an action of a machine with so many heads and these tapes."""
-    if not _has_kind(value, ACTION_LENGTHS):
+    if not _has_word(value) or ACTION_LENGTHS.get(value[0]) != len(value):
         return False
     if value[0] == "write":
         return isinstance(value[3], bool) and _is_cell(value[1], value[2], heads, tapes)

@@ -240,6 +240,38 @@ def trees():
     return found
 
 
+def tables_of(tree):
+    """The names of the lists and dicts at module level."""
+    return {node.targets[0].id for node in tree.body
+            if isinstance(node, ast.Assign) and isinstance(node.value, (ast.List, ast.Dict))}
+
+
+def uses_of_tables(tree, tables):
+    """The lines in which a list or dict of a module level is used otherwise than by reading it."""
+    above = {part: node for node in ast.walk(tree) for part in ast.iter_child_nodes(node)}
+    found = []
+    for node in ast.walk(tree):
+        if isinstance(node, ast.Name) and node.id in tables and isinstance(node.ctx, ast.Load):
+            outer = above[node]
+            read = isinstance(outer, (ast.Subscript, ast.Attribute, ast.Compare, ast.For, ast.comprehension))
+            copied = isinstance(outer, ast.Call) and getattr(outer.func, "id", "") in ("len", "list", "dict", "sorted")
+            if not read and not copied:
+                found.append(node.lineno)
+    return found
+
+
+def names_both_ways(found):
+    """The names that are methods of one class and attributes of another one."""
+    methods, attributes = set(), set()
+    for tree in found:
+        for node in ast.walk(tree):
+            if isinstance(node, ast.ClassDef):
+                methods.update(part.name for part in node.body if isinstance(part, ast.FunctionDef))
+            if isinstance(node, ast.Attribute) and isinstance(node.ctx, ast.Store):
+                attributes.add(node.attr)
+    return methods & attributes
+
+
 def faults_of(text):
     return Check("a text", text, trees()).faults
 
@@ -256,6 +288,14 @@ class TestPackage(unittest.TestCase):
         for path in sorted(PACKAGE.rglob("*.py")):
             with self.subTest(path.name):
                 self.assertEqual(Check(path.name, path.read_text(), others).faults, [])
+
+    def test_tables_are_only_read(self):
+        tables = set().union(*(tables_of(tree) for tree in trees().values()))
+        for name, tree in trees().items():
+            self.assertEqual(uses_of_tables(tree, tables), [], name)
+
+    def test_methods_and_attributes_have_other_names(self):
+        self.assertEqual(names_both_ways(trees().values()), set())
 
     def test_no_warnings(self):
         for path in sorted(PACKAGE.rglob("*.py")):
@@ -287,6 +327,15 @@ class TestCheck(unittest.TestCase):
                      "def f():\n" + "    pass\n" * 40, "x = 1\n" + "# " + "x" * 120 + "\n", "x = 'enum'\n"]:
             with self.subTest(text):
                 self.assertTrue(faults_of(text))
+
+    def test_uses_of_tables_are_found(self):
+        for text, many in [("f(T)", 1), ("x = T", 1), ("x = [T]", 1), ("x = T[1]", 0), ("x = T.get(1)", 0), ("x = 1 in T", 0), ("x = len(T)", 0),
+                           ("for x in T:\n    pass", 0), ("x = [y for y in T]", 0)]:
+            self.assertEqual(len(uses_of_tables(ast.parse(text), {"T"})), many, text)
+
+    def test_names_both_ways_are_found(self):
+        text = "class A:\n    def f(self):\n        self.g = 1\n\n\nclass B:\n    def g(self):\n        self.h = 1\n"
+        self.assertEqual(names_both_ways([ast.parse(text)]), {"g"})
 
     def test_what_is_allowed(self):
         for text in ["from sayso.errors import BadText\nX = (1, 'a')\n\n\ndef f(x):\n    raise BadText('no')\n",
