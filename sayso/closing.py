@@ -25,13 +25,17 @@ class Signed:
         """Return the tuple of all variables."""
         return tuple(self.signs + self.heads)
 
+    def _signs_of(self, state):
+        """Return the variables that have the elements which tell of a state."""
+        return signs_of(state, len(self.signs), self.order.least, self.order.greatest)
+
     def row(self, state):
         """Return the variables that have the elements which tell of a state with all heads on 0."""
-        return signs_of(state, len(self.signs), self.order) + (self.order.least,) * len(self.heads)
+        return self._signs_of(state) + (self.order.least,) * len(self.heads)
 
     def has_state(self, state):
         """Return the list of formulas that say that the state is this one."""
-        return equal_parts(self.signs, signs_of(state, len(self.signs), self.order))
+        return equal_parts(self.signs, self._signs_of(state))
 
 
 def _rule_formula(rule, teller, before, after):

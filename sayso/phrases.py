@@ -43,9 +43,9 @@ def equal_parts(variables, others):
     return [("eq", one, other) for one, other in zip(variables, others) if one != other]
 
 
-def signs_of(number, count, order):
-    """Return the tuple of variables with the least and the greatest element that writes a number in binary digits."""
-    return tuple([order.greatest if number >> at & 1 else order.least for at in range(count)])
+def signs_of(number, count, low, high):
+    """Return the tuple of so many variables, low or high ones, that writes a number in binary digits."""
+    return tuple([high if number >> at & 1 else low for at in range(count)])
 
 
 class Order:

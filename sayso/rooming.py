@@ -7,7 +7,6 @@ from sayso.motion import ACCEPTING
 from sayso.phrases import Order
 from sayso.phrases import all_of
 from sayso.phrases import any_of
-from sayso.phrases import equal_parts
 from sayso.phrases import flagged
 from sayso.phrases import signs_of
 from sayso.phrases import there_are
@@ -15,78 +14,103 @@ from sayso.previous import Previous
 from sayso.renaming import Names
 from sayso.shapes import OWN_COUNTS
 
+# The accepting state has the number 0, and so the first state has that of the other one.
+NUMBER_OF_FIRST = 1
+NUMBER_OF_ACCEPTING = 0
+
+
+class View:
+    """What is said of a stage, with a variable that has another element than the least one."""
+
+    def __init__(self, room, high):
+        self.room = room
+        self.high = high
+
+    def at_state(self, state, places):
+        """Return the formula that says that the machine is in a state, with the heads on elements."""
+        return self.room.has_row(NUMBER_OF_FIRST if state == 0 else state, self.high, places)
+
+    def marked(self, tape, cell, flag):
+        """Return the formula that says that a cell of a tape is marked, or is not."""
+        return flagged(self.room.has_row(self.room.states + tape, self.high, cell), flag)
+
 
 class Room:
     """The relation of a pfp whose stages are the configurations of a plain machine, one after the other.
 
-    A tuple begins with signs, which write the number of a state or, behind the states, of a tape. Behind them stand
-    the elements of the heads or of a marked cell, and then the least element. When the accepting state has been
-    reached, all tuples belong to the stage, and to all later ones; no tuple with its number does before.
+    A tuple begins with signs, the binary digits of the number of a state or, behind the states, of a tape: the least
+    element is the digit 0, and any other element the digit 1. Behind them stand the elements of the heads or of a
+    marked cell, and then the least element. When the accepting state has been reached, all tuples belong to the
+    stage, and to all later ones; no tuple with its number does before.
     """
 
     def __init__(self, machine):
         self.machine = machine
-        heads, tapes, states, rules = machine
+        heads, tapes, self.states, rules = machine
         source = Names([name for name, _ in machine_symbols(machine)], [])
-        self.order = Order(source, source.fresh(), source.fresh())
+        self.order = Order(source, source.fresh(), None)
         self.name = source.fresh()
-        self.signs = self.order.fresh(digits_for(states + len(tapes)))
+        self.signs = self.order.fresh(digits_for(self.states + len(tapes)))
         self.places = self.order.fresh(max([1, heads] + list(tapes)))
-        self.previous = Previous(machine, self.order, self)
         self.reached = sorted(set([0] + [goal for _, _, _, goal in rules if goal != ACCEPTING]))
 
-    def _row(self, number, variables):
-        """Return the arguments that stand for a state or a tape with elements."""
-        row = signs_of(number, len(self.signs), self.order) + tuple(variables)
-        return row + (self.order.least,) * (len(self.places) - len(variables))
-
-    def at_state(self, state, places):
-        """Return the formula that says that the machine is in a state, with the heads on elements."""
-        return ("rel", self.name, self._row(state, places))
-
-    def marked(self, tape, cell, flag):
-        """Return the formula that says that a cell of a tape is marked, or is not."""
-        return flagged(("rel", self.name, self._row(self.machine[2] + tape, cell)), flag)
-
-    def _has_number(self, number):
-        """Return the list of formulas that say that the signs write a number."""
-        return equal_parts(self.signs, signs_of(number, len(self.signs), self.order))
+    def has_row(self, number, high, variables):
+        """Return the formula that says that there is the tuple of a number and elements."""
+        signs = signs_of(number, len(self.signs), self.order.least, high)
+        rest = (self.order.least,) * (len(self.places) - len(variables))
+        return ("rel", self.name, signs + tuple(variables) + rest)
 
     def _rows_of(self, number, count, ways):
-        """Return the list of a formula, or none, that tells which tuples with a number and so many elements exist."""
+        """Return the formula that tells which tuples with a number and so many elements there are."""
+        told = []
+        for at, sign in enumerate(self.signs):
+            told.append(flagged(("eq", sign, self.order.least), not number >> at & 1))
+        return all_of(told + self.order.are_least(self.places[count:]) + [any_of(ways)])
+
+    def _view_for(self, number):
+        """Return the view that is used for tuples with a number: one of its own signs is another than the least."""
+        return View(self, self.signs[number.bit_length() - 1])
+
+    def _state_rows(self, state):
+        """Return the formula that tells which tuples for a state there are after a step."""
+        heads = self.machine[0]
+        places = self.places[:heads]
+        number = NUMBER_OF_FIRST if state == 0 else state
+        view = self._view_for(number)
+        ways = Previous(self.machine, self.order, view).arrivals(state, places)
+        if state == 0:
+            before = self.order.fresh(heads)
+            begun = there_are(before, [any_of([view.at_state(other, before) for other in self.reached])])
+            ways.append(all_of(self.order.are_least(places) + [("not", begun)]))
+        return self._rows_of(number, heads, ways)
+
+    def _tape_rows(self, tape):
+        """Return the formula that tells which tuples for a tape there are after a step."""
+        number = self.states + tape
+        arity = self.machine[1][tape]
+        previous = Previous(self.machine, self.order, self._view_for(number))
+        return self._rows_of(number, arity, previous.cell_ways(tape, self.places[:arity], True))
+
+    def _accepting_ways(self):
+        """Return the list of formulas of which one holds if the machine has accepted after a step."""
+        high = self.order.source.fresh()
+        before = self.order.fresh(self.machine[0])
+        ways = Previous(self.machine, self.order, View(self, high)).accepting(before)
         if not ways:
             return []
-        rest = self.order.are_least(self.places[count:])
-        return [all_of(self._has_number(number) + rest + [any_of(ways)])]
-
-    def _not_begun(self):
-        """Return the formula that says that there was no state."""
-        before = self.order.fresh(self.machine[0])
-        return ("not", there_are(before, [any_of([self.at_state(state, before) for state in self.reached])]))
-
-    def body(self):
-        """Return the formula of the pfp."""
-        heads, tapes, states, _ = self.machine
-        places = self.places[:heads]
-        found = []
-        for state in self.reached:
-            ways = self.previous.arrivals(state, places)
-            if state == 0:
-                ways.append(all_of(self.order.are_least(places) + [self._not_begun()]))
-            found.extend(self._rows_of(state, heads, ways))
-        before = self.order.fresh(heads)
-        ways = self.previous.accepting(before)
-        if ways:
-            found.extend([self.at_state(ACCEPTING, places), there_are(before, [any_of(ways)])])
-        for tape, arity in enumerate(tapes):
-            ways = self.previous.cell_ways(tape, self.places[:arity], True)
-            found.extend(self._rows_of(states + tape, arity, ways))
-        return any_of(found)
+        differs = ("not", ("eq", high, self.order.least))
+        accepts_now = there_are([high] + before, [differs, any_of(ways)])
+        return [self.has_row(NUMBER_OF_ACCEPTING, high, self.places), accepts_now]
 
     def whole(self):
         """Return the sentence that the machine accepts, which may still be beyond a bound."""
-        fixed = ("pfp", self.name, tuple(self.signs + self.places), self.body(), self._row(ACCEPTING, ()))
-        return ("some", (self.order.least, self.order.greatest), all_of([self.order.ends_told(), fixed]))
+        least = self.order.least
+        found = [self._state_rows(state) for state in self.reached] + self._accepting_ways()
+        found.extend([self._tape_rows(tape) for tape in range(len(self.machine[1]))])
+        own = tuple(self.signs + self.places)
+        fixed = ("pfp", self.name, own, any_of(found), (least,) * len(own))
+        is_least = Order(self.order.source, None, None).are_least([least])
+        return ("some", (least,), all_of(is_least + [fixed]))
 
 
 def room_sentence(machine):
