@@ -15,7 +15,8 @@ class Decision:
 
     def __init__(self, builder, known, entry, yes, no):
         self.builder = builder
-        self.head_of, self.tape_of = known
+        self.head_of = known[0]
+        self.tape_of = known[1]
         self.entry = entry
         self.yes = yes
         self.no = no

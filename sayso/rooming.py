@@ -46,11 +46,12 @@ class Room:
 
     def __init__(self, machine):
         self.machine = machine
-        heads, tapes, self.states, rules = machine
+        heads, tapes, states, rules = machine
+        self.states = states
         source = Names([name for name, _ in machine_symbols(machine)], [])
         self.order = Order(source, source.fresh(), None)
         self.name = source.fresh()
-        self.signs = self.order.fresh(digits_for(self.states + len(tapes)))
+        self.signs = self.order.fresh(digits_for(states + len(tapes)))
         self.places = self.order.fresh(max([1, heads] + list(tapes)))
         self.reached = sorted(set([0] + [goal for _, _, _, goal in rules if goal != ACCEPTING]))
 
